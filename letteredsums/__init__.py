@@ -1,0 +1,1 @@
+"""Polynomials in letters, with exact fractions; the calls are in letteredsums.polynomials."""

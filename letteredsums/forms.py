@@ -1,0 +1,56 @@
+"""What a polynomial is within the program, and what can be asked of one."""
+
+LETTERS = "abcdefghijklmnopqrstuvwxyz"
+
+
+class Polynomial:
+    """Whole numbers other than 0, each told by its product of letters, all over one number above 0.
+
+    A product is a tuple of 26 whole numbers: how often each letter is there, from a on.
+    One number below them all spares a shortening of fractions at each step of the reckoning.
+    """
+
+    def __init__(self, tops, below):
+        self.tops = tops
+        self.below = below
+
+
+def common_divisor(first, second):
+    """The largest whole number that goes into both; neither is below 0."""
+    while second != 0:
+        rest = first % second
+        first = second
+        second = rest
+    return first
+
+
+def common_multiple(first, second):
+    """The smallest whole number that both go into; both are above 0."""
+    return first // common_divisor(first, second) * second
+
+
+def rank(product):
+    """Larger for the higher of two products."""
+    return (sum(product), product)
+
+
+def number_at(polynomial, product):
+    """The number that stands with a product, as its two whole numbers in lowest terms."""
+    top = polynomial.tops[product]
+    divisor = common_divisor(abs(top), polynomial.below)
+    return (top // divisor, polynomial.below // divisor)
+
+
+def degree_of(polynomial):
+    return max([sum(product) for product in polynomial.tops], default=0)
+
+
+def letters_of(polynomials):
+    """The numbers of the letters that are there in one of these polynomials or more."""
+    found = {}
+    for polynomial in polynomials:
+        for product in polynomial.tops:
+            for letter, count in enumerate(product):
+                if count > 0:
+                    found[letter] = True
+    return sorted(found)

@@ -1,0 +1,35 @@
+"""Reckoning with polynomials: each def makes a new one and leaves those it was given as they are."""
+
+from letteredsums.forms import LETTERS, Polynomial, common_multiple
+
+
+def number_alone(top, below):
+    """The polynomial that is this number, without letters."""
+    return Polynomial(without_zeros({tuple([0] * len(LETTERS)): top}), below)
+
+
+def without_zeros(tops):
+    kept = {}
+    for product, top in tops.items():
+        if top != 0:
+            kept[product] = top
+    return kept
+
+
+def added(first, second):
+    below = common_multiple(first.below, second.below)
+    sums = {}
+    for polynomial in (first, second):
+        factor = below // polynomial.below
+        for product, top in polynomial.tops.items():
+            sums[product] = sums.get(product, 0) + top * factor
+    return Polynomial(without_zeros(sums), below)
+
+
+def multiplied(first, second):
+    sums = {}
+    for left, left_top in first.tops.items():
+        for right, right_top in second.tops.items():
+            product = tuple([m + n for m, n in zip(left, right)])
+            sums[product] = sums.get(product, 0) + left_top * right_top
+    return Polynomial(without_zeros(sums), first.below * second.below)

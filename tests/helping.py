@@ -1,0 +1,179 @@
+"""What the tests share: texts as bytes, and a second, slow way to reckon every answer.
+
+The second way shares no code with the package: it reads texts by a regular expression that spells out the
+document's rules, and keeps Fractions.
+"""
+
+import itertools
+import re
+from fractions import Fraction
+from math import gcd
+
+from letteredsums.polynomials import product, sum_of
+
+WHOLE = r"(?:0|[1-9][0-9]*)"
+NUMBER = WHOLE + r"(?:/" + WHOLE + r")?"
+POWER = r"[a-z](?:\^" + WHOLE + r")?"
+PRODUCT = POWER + r"(?:\*" + POWER + r")*"
+TERM = r"(?:" + NUMBER + r"\*" + PRODUCT + r"|" + NUMBER + r"|" + PRODUCT + r")"
+TEXT = re.compile(r"-?" + TERM + r"(?: [+-] " + TERM + r")*\Z")
+SIGNED_TERM = re.compile(r"(-|\A| - | \+ )(" + TERM + r")")
+
+
+def codes(text):
+    return [ord(sign) for sign in text]
+
+
+def answered(text):
+    """The answer of a call that answers 1 and one text."""
+    return [1, len(text)] + codes(text)
+
+
+# A polynomial of the second way: a dict from ((letter, count), ...) to a Fraction other than 0.
+
+def read_power(power):
+    """A letter and its count, or None if the count may not be written so."""
+    letter, hat, count = power.partition("^")
+    if hat and int(count) < 2:
+        return None
+    return letter, int(count) if hat else 1
+
+
+def read_number(text):
+    top, slash, bottom = text.partition("/")
+    if slash and (int(bottom) < 2 or gcd(int(top), int(bottom)) > 1):
+        return None
+    return Fraction(int(top), int(bottom) if slash else 1)
+
+
+def read_term(text):
+    """The product and the number of a term without sign, or None if it breaks a rule."""
+    factors = text.split("*")
+    number = Fraction(1)
+    if factors[0][0].isdigit():
+        number = read_number(factors.pop(0))
+        if not number or (factors and number == 1):
+            return None
+    powers = [read_power(factor) for factor in factors]
+    if None in powers:
+        return None
+    letters = [letter for letter, count in powers]
+    if letters != sorted(set(letters)):
+        return None
+    return tuple(powers), number
+
+
+def height_key(product):
+    counts = dict(product)
+    return sum(counts.values()), [counts.get(letter, 0) for letter in "abcdefghijklmnopqrstuvwxyz"]
+
+
+def read(text):
+    """The polynomial of a text, or None if the text isn't a polynomial's."""
+    if text == "0":
+        return {}
+    if not TEXT.match(text):
+        return None
+    result = {}
+    last = None
+    for sign, body in SIGNED_TERM.findall(text):
+        term = read_term(body)
+        if term is None or (last is not None and height_key(term[0]) >= height_key(last)):
+            return None
+        last = term[0]
+        result[term[0]] = -term[1] if "-" in sign else term[1]
+    return result
+
+
+def write(polynomial):
+    text = ""
+    for product in sorted(polynomial, key=height_key, reverse=True):
+        number = polynomial[product]
+        powers = [letter if count == 1 else f"{letter}^{count}" for letter, count in product]
+        if abs(number) != 1 or not powers:
+            powers.insert(0, str(abs(number)))
+        if text:
+            text += " - " if number < 0 else " + "
+        elif number < 0:
+            text = "-"
+        text += "*".join(powers)
+    return text or "0"
+
+
+def plus(first, second):
+    result = dict(first)
+    for product, number in second.items():
+        result[product] = result.get(product, 0) + number
+    return {product: number for product, number in result.items() if number}
+
+
+def times(first, second):
+    result = {}
+    for (left, number), (right, other) in itertools.product(first.items(), second.items()):
+        counts = dict(left)
+        for letter, count in right:
+            counts[letter] = counts.get(letter, 0) + count
+        result = plus(result, {tuple(sorted(counts.items())): number * other})
+    return result
+
+
+def degree(polynomial):
+    return max((sum(count for letter, count in product) for product in polynomial), default=0)
+
+
+def first_refusal(texts):
+    """What point 1 of the promises says of these texts; 0 if nothing."""
+    polynomials = [read(text) for text in texts]
+    if None in polynomials:
+        return -1
+    letters = {letter for polynomial in polynomials for product in polynomial for letter, count in product}
+    wholes = [whole for polynomial in polynomials for number in polynomial.values()
+              for whole in (abs(number.numerator), number.denominator)]
+    if (len(letters) > 3 or any(len(polynomial) > 30 or degree(polynomial) > 8 for polynomial in polynomials)
+            or any(len(str(whole)) > 12 for whole in wholes)):
+        return -2
+    return 0
+
+
+def expected_sum(p, q):
+    refusal = first_refusal([p, q])
+    return [refusal] if refusal else answered(write(plus(read(p), read(q))))
+
+
+def expected_product(p, q):
+    refusal = first_refusal([p, q])
+    return [refusal] if refusal else answered(write(times(read(p), read(q))))
+
+
+def products_up_to(highest, letters):
+    """All products of these letters up to a degree, the higher ones first, as the second way keeps them."""
+    found = []
+    for counts in itertools.product(range(highest + 1), repeat=len(letters)):
+        if sum(counts) <= highest:
+            found.append(tuple((letter, count) for letter, count in zip(letters, counts) if count))
+    return sorted(found, key=height_key, reverse=True)
+
+
+def random_polynomial(chance, letters, highest, most, digits):
+    """A polynomial of the second way with at most this many products and digits."""
+    products = products_up_to(highest, letters)
+    result = {}
+    for product in chance.sample(products, chance.randint(0, min(most, len(products)))):
+        top = chance.choice([1, 1, 2, 3, chance.randrange(1, 10 ** digits)])
+        bottom = chance.choice([1, 1, 1, 2, 3, chance.randrange(1, 10 ** digits)])
+        result[product] = Fraction(chance.choice([-1, 1]) * top, bottom)
+    return result
+
+
+def places(other):
+    """Every place where a text is handed over: its name, a call with the text there, and what is expected.
+
+    `other` stands at the second place, where there is one.
+    """
+    rest = codes(other)
+    return [
+        ("sum_of p", lambda p: sum_of(p, rest), lambda p: expected_sum(p, other)),
+        ("sum_of q", lambda q: sum_of(rest, q), lambda q: expected_sum(other, q)),
+        ("product p", lambda p: product(p, rest), lambda p: expected_product(p, other)),
+        ("product q", lambda q: product(rest, q), lambda q: expected_product(other, q)),
+    ]

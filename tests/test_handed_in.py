@@ -1,0 +1,73 @@
+"""What is handed in stays as it is, nothing is kept, and answers are lists of whole numbers."""
+
+import unittest
+
+from letteredsums.polynomials import product, sum_of
+from tests.helping import codes
+
+TEXTS = ["3/2*x^2*y - x + 1", "-x", "0", "", "x + x", "x^9", "w*x*y*z", "y^4 - 1/2", "\xff"]
+
+
+class Unchanging(list):
+    """A list that can't be changed, not for a while either."""
+
+    def refuse(self, *arguments, **more):
+        raise AssertionError("what was handed in was changed")
+
+    append = extend = insert = remove = pop = clear = sort = reverse = refuse
+    __setitem__ = __delitem__ = __iadd__ = __imul__ = refuse
+
+
+def calls_with(p, q):
+    return [
+        ("sum_of", lambda: sum_of(p, q)),
+        ("product", lambda: product(p, q)),
+    ]
+
+
+class HandedIn(unittest.TestCase):
+    def test_nothing_is_changed(self):
+        for first in TEXTS:
+            for second in TEXTS:
+                p, q = codes(first), codes(second)
+                for name, call in calls_with(p, q):
+                    call()
+                    self.assertEqual((p, q), (codes(first), codes(second)), name)
+
+    def test_nothing_is_changed_for_a_while_either(self):
+        for first in TEXTS:
+            for second in TEXTS:
+                for name, call in calls_with(Unchanging(codes(first)), Unchanging(codes(second))):
+                    call()
+
+    def test_one_list_as_both(self):
+        p = codes("x - 1/2")
+        self.assertEqual(sum_of(p, p), sum_of(list(p), list(p)))
+        self.assertEqual(product(p, p), product(list(p), list(p)))
+        self.assertEqual(p, codes("x - 1/2"))
+
+    def test_nothing_is_kept(self):
+        p, q = codes("3/2*x^2*y - x + 1"), codes("-x")
+        for name, call in calls_with(p, q):
+            first = call()
+            kept = list(first)
+            first.append(7)
+            sum_of(codes("x + x"), codes("y"))
+            self.assertEqual(call(), kept, name)
+
+    def test_answers_are_lists_of_whole_numbers(self):
+        for first in TEXTS:
+            for second in TEXTS:
+                for name, call in calls_with(codes(first), codes(second)):
+                    answer = call()
+                    self.assertIs(type(answer), list)
+                    self.assertTrue(all(type(number) is int for number in answer), name)
+                    if answer[0] < 0:
+                        self.assertEqual(len(answer), 1)
+                    else:
+                        self.assertEqual(answer[0], 1)
+                        self.assertEqual(answer[1], len(answer) - 2)
+
+
+if __name__ == "__main__":
+    unittest.main()
