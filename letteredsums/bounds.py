@@ -1,15 +1,17 @@
 """What is refused, and by which number."""
 
-from letteredsums.forms import degree_of, letters_of, number_at
+from letteredsums.forms import LETTERS, degree_of, letters_of, number_at
 
 NOTHING = 0
 NOT_A_POLYNOMIAL = -1
 TOO_LARGE = -2
+NOT_A_LETTER = -4
 
 MOST_PRODUCTS = 30
 MOST_LETTERS = 3
 HIGHEST_DEGREE = 8
 LARGEST_WHOLE = 999999999999
+HIGHEST_RESULT = 12
 
 
 def refusal_of_polynomials(polynomials):
@@ -32,3 +34,23 @@ def is_too_large(polynomial):
         if abs(number[0]) > LARGEST_WHOLE or number[1] > LARGEST_WHOLE:
             return True
     return False
+
+
+def refusal_of_power(power, polynomial):
+    refusal = refusal_of_polynomials([polynomial])
+    if refusal != NOTHING:
+        return refusal
+    if power > HIGHEST_RESULT or power * degree_of(polynomial) > HIGHEST_RESULT:
+        return TOO_LARGE
+    return NOTHING
+
+
+def refusal_of_put(letter, polynomial, other):
+    if letter >= len(LETTERS):
+        return NOT_A_LETTER
+    refusal = refusal_of_polynomials([polynomial, other])
+    if refusal != NOTHING:
+        return refusal
+    if degree_of(polynomial) * degree_of(other) > HIGHEST_RESULT:
+        return TOO_LARGE
+    return NOTHING

@@ -54,3 +54,13 @@ def letters_of(polynomials):
                 if count > 0:
                     found[letter] = True
     return sorted(found)
+
+
+def parts_by(letter, polynomial):
+    """What stands at the letter's powers, from power 0 up to its height."""
+    height = max([product[letter] for product in polynomial.tops], default=0)
+    by_power = [{} for power in range(height + 1)]
+    for product, top in polynomial.tops.items():
+        others = product[:letter] + (0,) + product[letter + 1:]
+        by_power[product[letter]][others] = top
+    return [Polynomial(tops, polynomial.below) for tops in by_power]

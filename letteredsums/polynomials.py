@@ -1,8 +1,8 @@
 """The calls: each takes texts as lists of bytes and answers one list of whole numbers."""
 
-from letteredsums.bounds import NOTHING, refusal_of_polynomials
+from letteredsums.bounds import NOTHING, refusal_of_polynomials, refusal_of_power, refusal_of_put
 from letteredsums.reading import polynomial_of
-from letteredsums.reckoning import added, multiplied
+from letteredsums.reckoning import added, multiplied, raised, replaced
 from letteredsums.writing import text_of
 
 
@@ -24,6 +24,25 @@ def product(p, q):
     if refusal != NOTHING:
         return [refusal]
     return answer(1, [multiplied(first, second)])
+
+
+def power(n, p):
+    """1, then p to the n-th power."""
+    base = polynomial_of(p)
+    refusal = refusal_of_power(n, base)
+    if refusal != NOTHING:
+        return [refusal]
+    return answer(1, [raised(base, n)])
+
+
+def put(letter, p, q):
+    """1, then p with q in place of the letter."""
+    outer = polynomial_of(p)
+    inner = polynomial_of(q)
+    refusal = refusal_of_put(letter, outer, inner)
+    if refusal != NOTHING:
+        return [refusal]
+    return answer(1, [replaced(letter, outer, inner)])
 
 
 def answer(number, polynomials):

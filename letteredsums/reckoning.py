@@ -1,6 +1,6 @@
 """Reckoning with polynomials: each def makes a new one and leaves those it was given as they are."""
 
-from letteredsums.forms import LETTERS, Polynomial, common_multiple
+from letteredsums.forms import LETTERS, Polynomial, common_multiple, parts_by
 
 
 def number_alone(top, below):
@@ -33,3 +33,19 @@ def multiplied(first, second):
             product = tuple([m + n for m, n in zip(left, right)])
             sums[product] = sums.get(product, 0) + left_top * right_top
     return Polynomial(without_zeros(sums), first.below * second.below)
+
+
+def raised(polynomial, power):
+    result = number_alone(1, 1)
+    for step in range(power):
+        result = multiplied(result, polynomial)
+    return result
+
+
+def replaced(letter, polynomial, other):
+    """The polynomial with the other one in place of the letter."""
+    result = number_alone(0, 1)
+    # From the highest power down, so that each step needs one multiplication and no power of its own.
+    for part in reversed(parts_by(letter, polynomial)):
+        result = added(multiplied(result, other), part)
+    return result

@@ -1,7 +1,7 @@
 """What the tests share: texts as bytes, and a second, slow way to reckon every answer.
 
 The second way shares no code with the package: it reads texts by a regular expression that spells out the
-document's rules, and keeps Fractions.
+document's rules, keeps Fractions, and puts polynomials into one another product by product.
 """
 
 import itertools
@@ -9,7 +9,7 @@ import re
 from fractions import Fraction
 from math import gcd
 
-from letteredsums.polynomials import product, sum_of
+from letteredsums.polynomials import power, product, put, sum_of
 
 WHOLE = r"(?:0|[1-9][0-9]*)"
 NUMBER = WHOLE + r"(?:/" + WHOLE + r")?"
@@ -117,6 +117,21 @@ def times(first, second):
     return result
 
 
+def to_power(polynomial, n):
+    result = {(): Fraction(1)}
+    for step in range(n):
+        result = times(result, polynomial)
+    return result
+
+
+def put_into(letter, polynomial, other):
+    result = {}
+    for product, number in polynomial.items():
+        rest = tuple(pair for pair in product if pair[0] != letter)
+        result = plus(result, times({rest: number}, to_power(other, dict(product).get(letter, 0))))
+    return result
+
+
 def degree(polynomial):
     return max((sum(count for letter, count in product) for product in polynomial), default=0)
 
@@ -143,6 +158,26 @@ def expected_sum(p, q):
 def expected_product(p, q):
     refusal = first_refusal([p, q])
     return [refusal] if refusal else answered(write(times(read(p), read(q))))
+
+
+def expected_power(n, p):
+    refusal = first_refusal([p])
+    if refusal:
+        return [refusal]
+    if n > 12 or n * degree(read(p)) > 12:
+        return [-2]
+    return answered(write(to_power(read(p), n)))
+
+
+def expected_put(letter, p, q):
+    if letter > 25:
+        return [-4]
+    refusal = first_refusal([p, q])
+    if refusal:
+        return [refusal]
+    if degree(read(p)) * degree(read(q)) > 12:
+        return [-2]
+    return answered(write(put_into("abcdefghijklmnopqrstuvwxyz"[letter], read(p), read(q))))
 
 
 def products_up_to(highest, letters):
@@ -176,4 +211,7 @@ def places(other):
         ("sum_of q", lambda q: sum_of(rest, q), lambda q: expected_sum(other, q)),
         ("product p", lambda p: product(p, rest), lambda p: expected_product(p, other)),
         ("product q", lambda q: product(rest, q), lambda q: expected_product(other, q)),
+        ("power p", lambda p: power(1, p), lambda p: expected_power(1, p)),
+        ("put p", lambda p: put(23, p, rest), lambda p: expected_put(23, p, other)),
+        ("put q", lambda q: put(23, rest, q), lambda q: expected_put(23, other, q)),
     ]

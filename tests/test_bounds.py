@@ -2,7 +2,7 @@
 
 import unittest
 
-from letteredsums.polynomials import product, sum_of
+from letteredsums.polynomials import product, put, sum_of
 from tests.helping import codes, places, products_up_to, write
 
 MANY = products_up_to(4, "xyz")
@@ -96,7 +96,7 @@ class Bounds(unittest.TestCase):
                     self.assertEqual(call(codes(text)), [-2])
 
     def test_letters_together(self):
-        calls = (sum_of, product)
+        calls = (sum_of, product, lambda p, q: put(23, p, q))
         for p, q, fits in TOGETHER:
             for call in calls:
                 with self.subTest(p=p, q=q):

@@ -3,8 +3,9 @@
 import random
 import unittest
 
-from letteredsums.polynomials import product, sum_of
-from tests.helping import codes, expected_product, expected_sum, random_polynomial, write
+from letteredsums.polynomials import power, product, put, sum_of
+from tests.helping import (codes, expected_power, expected_product, expected_put, expected_sum, random_polynomial,
+                           write)
 
 LETTERS = "abcdefghijklmnopqrstuvwxyz"
 SIGNS = " +-*/^0123456789abxyz"
@@ -37,6 +38,24 @@ class SecondWay(unittest.TestCase):
             with self.subTest(p=p, q=q):
                 self.assertEqual(sum_of(codes(p), codes(q)), expected_sum(p, q))
                 self.assertEqual(product(codes(p), codes(q)), expected_product(p, q))
+
+    def test_powers(self):
+        for step in range(150):
+            highest = self.chance.randint(0, 4)
+            p = self.some_text(self.some_letters(), highest)
+            n = self.chance.randint(0, 13 if highest < 2 else 13 // highest)
+            with self.subTest(n=n, p=p):
+                self.assertEqual(power(n, codes(p)), expected_power(n, p))
+
+    def test_puts(self):
+        for step in range(200):
+            letters = self.some_letters()
+            outer = self.chance.randint(0, 8)
+            p = self.some_text(letters, outer)
+            q = self.some_text(letters, self.chance.randint(0, min(8, 13 // max(outer, 1))))
+            letter = LETTERS.index(self.chance.choice(letters + "x"))
+            with self.subTest(letter=letter, p=p, q=q):
+                self.assertEqual(put(letter, codes(p), codes(q)), expected_put(letter, p, q))
 
     def test_texts_with_a_few_bytes_changed(self):
         for step in range(3000):
