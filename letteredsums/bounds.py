@@ -1,11 +1,13 @@
 """What is refused, and by which number."""
 
-from letteredsums.forms import LETTERS, degree_of, letters_of, number_at
+from letteredsums.forms import LETTERS, degree_of, is_zero, letters_of, number_at
 
 NOTHING = 0
 NOT_A_POLYNOMIAL = -1
 TOO_LARGE = -2
+HAS_NO_ANSWER = -3
 NOT_A_LETTER = -4
+DOES_NOT_GO_IN = -5
 
 MOST_PRODUCTS = 30
 MOST_LETTERS = 3
@@ -45,12 +47,27 @@ def refusal_of_power(power, polynomial):
     return NOTHING
 
 
-def refusal_of_put(letter, polynomial, other):
+def refusal_with_letter(letter, polynomials):
+    """The refusal of a letter's number and of what was handed over as polynomials' texts."""
     if letter >= len(LETTERS):
         return NOT_A_LETTER
-    refusal = refusal_of_polynomials([polynomial, other])
+    return refusal_of_polynomials(polynomials)
+
+
+def refusal_of_put(letter, polynomial, other):
+    refusal = refusal_with_letter(letter, [polynomial, other])
     if refusal != NOTHING:
         return refusal
     if degree_of(polynomial) * degree_of(other) > HIGHEST_RESULT:
         return TOO_LARGE
+    return NOTHING
+
+
+def refusal_of_over(polynomial, divisor):
+    """The refusal but for that of a divisor that doesn't go in, which only dividing shows."""
+    refusal = refusal_of_polynomials([polynomial, divisor])
+    if refusal != NOTHING:
+        return refusal
+    if is_zero(divisor):
+        return HAS_NO_ANSWER
     return NOTHING

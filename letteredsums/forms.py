@@ -45,6 +45,20 @@ def degree_of(polynomial):
     return max([sum(product) for product in polynomial.tops], default=0)
 
 
+def height_of(letter, polynomial):
+    """How often the letter is there at most."""
+    return max([product[letter] for product in polynomial.tops], default=0)
+
+
+def highest_product(polynomial):
+    """The product that is written first; the polynomial isn't 0."""
+    return max(polynomial.tops, key=rank)
+
+
+def is_zero(polynomial):
+    return len(polynomial.tops) == 0
+
+
 def letters_of(polynomials):
     """The numbers of the letters that are there in one of these polynomials or more."""
     found = {}
@@ -58,8 +72,7 @@ def letters_of(polynomials):
 
 def parts_by(letter, polynomial):
     """What stands at the letter's powers, from power 0 up to its height."""
-    height = max([product[letter] for product in polynomial.tops], default=0)
-    by_power = [{} for power in range(height + 1)]
+    by_power = [{} for power in range(height_of(letter, polynomial) + 1)]
     for product, top in polynomial.tops.items():
         others = product[:letter] + (0,) + product[letter + 1:]
         by_power[product[letter]][others] = top

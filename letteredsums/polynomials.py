@@ -1,8 +1,11 @@
 """The calls: each takes texts as lists of bytes and answers one list of whole numbers."""
 
-from letteredsums.bounds import NOTHING, refusal_of_polynomials, refusal_of_power, refusal_of_put
+from letteredsums.bounds import DOES_NOT_GO_IN, NOTHING
+from letteredsums.bounds import refusal_of_over, refusal_of_polynomials, refusal_of_power, refusal_of_put
+from letteredsums.bounds import refusal_with_letter
+from letteredsums.dividing import divided
 from letteredsums.reading import polynomial_of
-from letteredsums.reckoning import added, multiplied, raised, replaced
+from letteredsums.reckoning import added, multiplied, raised, replaced, sloped
 from letteredsums.writing import text_of
 
 
@@ -43,6 +46,28 @@ def put(letter, p, q):
     if refusal != NOTHING:
         return [refusal]
     return answer(1, [replaced(letter, outer, inner)])
+
+
+def slope(letter, p):
+    """1, then the slope of p by the letter."""
+    polynomial = polynomial_of(p)
+    refusal = refusal_with_letter(letter, [polynomial])
+    if refusal != NOTHING:
+        return [refusal]
+    return answer(1, [sloped(letter, polynomial)])
+
+
+def over(p, q):
+    """1, then the quotient of p by q."""
+    polynomial = polynomial_of(p)
+    divisor = polynomial_of(q)
+    refusal = refusal_of_over(polynomial, divisor)
+    if refusal != NOTHING:
+        return [refusal]
+    quotient = divided(polynomial, divisor)
+    if quotient is None:
+        return [DOES_NOT_GO_IN]
+    return answer(1, [quotient])
 
 
 def answer(number, polynomials):

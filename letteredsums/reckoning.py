@@ -8,6 +8,11 @@ def number_alone(top, below):
     return Polynomial(without_zeros({tuple([0] * len(LETTERS)): top}), below)
 
 
+def letter_alone(letter):
+    """The polynomial that is this letter."""
+    return Polynomial({tuple([1 if place == letter else 0 for place in range(len(LETTERS))]): 1}, 1)
+
+
 def without_zeros(tops):
     kept = {}
     for product, top in tops.items():
@@ -49,3 +54,19 @@ def replaced(letter, polynomial, other):
     for part in reversed(parts_by(letter, polynomial)):
         result = added(multiplied(result, other), part)
     return result
+
+
+def sloped(letter, polynomial):
+    """The slope of the polynomial by the letter."""
+    tops = {}
+    for product, top in polynomial.tops.items():
+        count = product[letter]
+        if count > 0:
+            tops[product[:letter] + (count - 1,) + product[letter + 1:]] = top * count
+    return Polynomial(tops, polynomial.below)
+
+
+def divided_by_whole(polynomial, whole):
+    """The polynomial divided by a whole number other than 0."""
+    signed = polynomial if whole > 0 else multiplied(number_alone(-1, 1), polynomial)
+    return Polynomial(signed.tops, signed.below * abs(whole))

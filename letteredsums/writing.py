@@ -1,6 +1,6 @@
 """From polynomials to their texts."""
 
-from letteredsums.forms import LETTERS, number_at, rank
+from letteredsums.forms import LETTERS, is_zero, number_at, rank
 
 PIECE = 1000000000000000000
 PIECE_DIGITS = 18
@@ -50,7 +50,7 @@ def sign_text(below_zero, is_first):
 
 
 def text_of(polynomial):
-    if len(polynomial.tops) == 0:
+    if is_zero(polynomial):
         return "0"
     pieces = []
     for product in sorted(polynomial.tops, key=rank, reverse=True):

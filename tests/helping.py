@@ -1,7 +1,8 @@
 """What the tests share: texts as bytes, and a second, slow way to reckon every answer.
 
 The second way shares no code with the package: it reads texts by a regular expression that spells out the
-document's rules, keeps Fractions, and puts polynomials into one another product by product.
+document's rules, keeps Fractions, puts polynomials into one another product by product, and divides them with one
+letter in place of all.
 """
 
 import itertools
@@ -9,7 +10,9 @@ import re
 from fractions import Fraction
 from math import gcd
 
-from letteredsums.polynomials import power, product, put, sum_of
+from letteredsums.polynomials import over, power, product, put, slope, sum_of
+
+LETTERS = "abcdefghijklmnopqrstuvwxyz"
 
 WHOLE = r"(?:0|[1-9][0-9]*)"
 NUMBER = WHOLE + r"(?:/" + WHOLE + r")?"
@@ -65,7 +68,7 @@ def read_term(text):
 
 def height_key(product):
     counts = dict(product)
-    return sum(counts.values()), [counts.get(letter, 0) for letter in "abcdefghijklmnopqrstuvwxyz"]
+    return sum(counts.values()), [counts.get(letter, 0) for letter in LETTERS]
 
 
 def read(text):
@@ -136,6 +139,44 @@ def degree(polynomial):
     return max((sum(count for letter, count in product) for product in polynomial), default=0)
 
 
+def slope_by(letter, polynomial):
+    result = {}
+    for product, number in polynomial.items():
+        counts = dict(product)
+        count = counts.pop(letter, 0)
+        if count > 1:
+            counts[letter] = count - 1
+        result = plus(result, {tuple(sorted(counts.items())): number * count})
+    return result
+
+
+def letters_in(polynomials):
+    return sorted({letter for polynomial in polynomials for product in polynomial for letter, count in product})
+
+
+def quotient(polynomial, divisor):
+    """The quotient, or None: divided with powers of one letter so high that each product has one of its own."""
+    letters = letters_in([polynomial, divisor])
+    room = degree(polynomial) - degree(divisor)
+    base = max(degree(polynomial), degree(divisor)) + 1
+
+    def packed(product):
+        return sum(count * base ** letters.index(letter) for letter, count in product)
+
+    products = {packed(product): product for product in products_up_to(max(room, 0), letters)}
+    rest = {packed(product): number for product, number in polynomial.items()}
+    below = {packed(product): number for product, number in divisor.items()}
+    result = {}
+    while rest:
+        step = max(rest) - max(below)
+        if room < 0 or step not in products:
+            return None
+        number = rest[max(rest)] / below[max(below)]
+        result[products[step]] = number
+        rest = plus(rest, {step + place: -number * other for place, other in below.items()})
+    return result
+
+
 def first_refusal(texts):
     """What point 1 of the promises says of these texts; 0 if nothing."""
     polynomials = [read(text) for text in texts]
@@ -177,7 +218,24 @@ def expected_put(letter, p, q):
         return [refusal]
     if degree(read(p)) * degree(read(q)) > 12:
         return [-2]
-    return answered(write(put_into("abcdefghijklmnopqrstuvwxyz"[letter], read(p), read(q))))
+    return answered(write(put_into(LETTERS[letter], read(p), read(q))))
+
+
+def expected_slope(letter, p):
+    if letter > 25:
+        return [-4]
+    refusal = first_refusal([p])
+    return [refusal] if refusal else answered(write(slope_by(LETTERS[letter], read(p))))
+
+
+def expected_over(p, q):
+    refusal = first_refusal([p, q])
+    if refusal:
+        return [refusal]
+    if q == "0":
+        return [-3]
+    found = quotient(read(p), read(q))
+    return [-5] if found is None else answered(write(found))
 
 
 def products_up_to(highest, letters):
@@ -214,4 +272,7 @@ def places(other):
         ("power p", lambda p: power(1, p), lambda p: expected_power(1, p)),
         ("put p", lambda p: put(23, p, rest), lambda p: expected_put(23, p, other)),
         ("put q", lambda q: put(23, rest, q), lambda q: expected_put(23, other, q)),
+        ("slope p", lambda p: slope(23, p), lambda p: expected_slope(23, p)),
+        ("over p", lambda p: over(p, rest), lambda p: expected_over(p, other)),
+        ("over q", lambda q: over(rest, q), lambda q: expected_over(other, q)),
     ]

@@ -2,7 +2,7 @@
 
 import unittest
 
-from letteredsums.polynomials import power, product, put, sum_of
+from letteredsums.polynomials import over, power, product, put, slope, sum_of
 from tests.helping import codes
 
 TEXTS = ["3/2*x^2*y - x + 1", "-x", "0", "", "x + x", "x^9", "w*x*y*z", "y^4 - 1/2", "\xff"]
@@ -26,6 +26,10 @@ def calls_with(p, q):
         ("power", lambda: power(13, p)),
         ("put", lambda: put(23, p, q)),
         ("put", lambda: put(26, p, q)),
+        ("slope", lambda: slope(23, p)),
+        ("slope", lambda: slope(26, p)),
+        ("over", lambda: over(p, q)),
+        ("over", lambda: over(q, p)),
     ]
 
 
@@ -49,6 +53,7 @@ class HandedIn(unittest.TestCase):
         self.assertEqual(sum_of(p, p), sum_of(list(p), list(p)))
         self.assertEqual(product(p, p), product(list(p), list(p)))
         self.assertEqual(put(23, p, p), put(23, list(p), list(p)))
+        self.assertEqual(over(p, p), over(list(p), list(p)))
         self.assertEqual(p, codes("x - 1/2"))
 
     def test_nothing_is_kept(self):

@@ -3,11 +3,10 @@
 import random
 import unittest
 
-from letteredsums.polynomials import power, product, put, sum_of
-from tests.helping import (codes, expected_power, expected_product, expected_put, expected_sum, random_polynomial,
-                           write)
+from letteredsums.polynomials import over, power, product, put, slope, sum_of
+from tests.helping import (LETTERS, codes, expected_over, expected_power, expected_product, expected_put,
+                           expected_slope, expected_sum, first_refusal, random_polynomial, times, write)
 
-LETTERS = "abcdefghijklmnopqrstuvwxyz"
 SIGNS = " +-*/^0123456789abxyz"
 
 
@@ -56,6 +55,42 @@ class SecondWay(unittest.TestCase):
             letter = LETTERS.index(self.chance.choice(letters + "x"))
             with self.subTest(letter=letter, p=p, q=q):
                 self.assertEqual(put(letter, codes(p), codes(q)), expected_put(letter, p, q))
+
+    def test_slopes(self):
+        for step in range(300):
+            letters = self.some_letters()
+            p = self.some_text(letters, self.chance.randint(0, 8))
+            letter = LETTERS.index(self.chance.choice(letters + "x"))
+            with self.subTest(letter=letter, p=p):
+                self.assertEqual(slope(letter, codes(p)), expected_slope(letter, p))
+
+    def product_of_two(self, highest, most, digits):
+        """Two polynomials and their product, all of them small enough to be handed over."""
+        while True:
+            letters = self.some_letters()
+            own = self.chance.randint(0, highest)
+            first = random_polynomial(self.chance, letters, own, most, digits)
+            second = random_polynomial(self.chance, letters, highest - own, most, digits)
+            p, q, both = write(first), write(second), write(times(first, second))
+            if q != "0" and len(both) <= 1400 and not first_refusal([p, both]) and not first_refusal([q, both]):
+                return p, q, both
+
+    def test_products_of_two_over_one_of_them(self):
+        for step in range(400):
+            p, q, both = self.product_of_two(self.chance.randint(0, 8), self.chance.choice([2, 4, 8]),
+                                             self.chance.choice([1, 2, 5]))
+            with self.subTest(p=p, q=q):
+                answer = over(codes(both), codes(q))
+                self.assertEqual(answer, [1, len(p)] + codes(p))
+                self.assertEqual(product(answer[2:], codes(q)), [1, len(both)] + codes(both))
+
+    def test_overs(self):
+        for step in range(400):
+            p, q, both = self.product_of_two(self.chance.randint(0, 8), self.chance.choice([1, 3, 6]), 4)
+            near = bytes(sum_of(codes(both), codes(self.chance.choice(["1", "-1/2", q])))[2:]).decode()
+            for top, below in ((p, q), (both, q), (near, q), (near, p), (q, both)):
+                with self.subTest(top=top, below=below):
+                    self.assertEqual(over(codes(top), codes(below)), expected_over(top, below))
 
     def test_texts_with_a_few_bytes_changed(self):
         for step in range(3000):
