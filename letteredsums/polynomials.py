@@ -1,11 +1,13 @@
 """The calls: each takes texts as lists of bytes and answers one list of whole numbers."""
 
 from letteredsums.bounds import DOES_NOT_GO_IN, NOTHING
-from letteredsums.bounds import refusal_of_over, refusal_of_polynomials, refusal_of_power, refusal_of_put
-from letteredsums.bounds import refusal_with_letter
+from letteredsums.bounds import refusal_of_common, refusal_of_over, refusal_of_polynomials, refusal_of_power
+from letteredsums.bounds import refusal_of_put, refusal_of_resultant, refusal_of_slope
 from letteredsums.dividing import divided
 from letteredsums.reading import polynomial_of
 from letteredsums.reckoning import added, multiplied, raised, replaced, sloped
+from letteredsums.sharing import common_of
+from letteredsums.tables import determinant, table_of
 from letteredsums.writing import text_of
 
 
@@ -51,7 +53,7 @@ def put(letter, p, q):
 def slope(letter, p):
     """1, then the slope of p by the letter."""
     polynomial = polynomial_of(p)
-    refusal = refusal_with_letter(letter, [polynomial])
+    refusal = refusal_of_slope(letter, polynomial)
     if refusal != NOTHING:
         return [refusal]
     return answer(1, [sloped(letter, polynomial)])
@@ -68,6 +70,26 @@ def over(p, q):
     if quotient is None:
         return [DOES_NOT_GO_IN]
     return answer(1, [quotient])
+
+
+def common(p, q):
+    """1, then what p and q have in common, in plain form."""
+    first = polynomial_of(p)
+    second = polynomial_of(q)
+    refusal = refusal_of_common(first, second)
+    if refusal != NOTHING:
+        return [refusal]
+    return answer(1, [common_of(first, second)])
+
+
+def resultant(letter, p, q):
+    """1, then the determinant of p's and q's table by the letter."""
+    first = polynomial_of(p)
+    second = polynomial_of(q)
+    refusal = refusal_of_resultant(letter, first, second)
+    if refusal != NOTHING:
+        return [refusal]
+    return answer(1, [determinant(table_of(letter, first, second))])
 
 
 def answer(number, polynomials):

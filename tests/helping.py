@@ -1,18 +1,21 @@
 """What the tests share: texts as bytes, and a second, slow way to reckon every answer.
 
 The second way shares no code with the package: it reads texts by a regular expression that spells out the
-document's rules, keeps Fractions, puts polynomials into one another product by product, and divides them with one
-letter in place of all.
+document's rules, keeps Fractions, puts polynomials into one another product by product, divides them with one letter
+in place of all, finds what is in common by rests with parts in place of numbers, and sums a determinant over all
+orders of its columns.
 """
 
 import itertools
 import re
 from fractions import Fraction
-from math import gcd
+from functools import reduce
+from math import gcd, lcm
 
-from letteredsums.polynomials import over, power, product, put, slope, sum_of
+from letteredsums.polynomials import common, over, power, product, put, resultant, slope, sum_of
 
 LETTERS = "abcdefghijklmnopqrstuvwxyz"
+PRIME = 2 ** 61 - 1
 
 WHOLE = r"(?:0|[1-9][0-9]*)"
 NUMBER = WHOLE + r"(?:/" + WHOLE + r")?"
@@ -116,8 +119,9 @@ def times(first, second):
         counts = dict(left)
         for letter, count in right:
             counts[letter] = counts.get(letter, 0) + count
-        result = plus(result, {tuple(sorted(counts.items())): number * other})
-    return result
+        product = tuple(sorted(counts.items()))
+        result[product] = result.get(product, 0) + number * other
+    return {product: number for product, number in result.items() if number}
 
 
 def to_power(polynomial, n):
@@ -177,7 +181,122 @@ def quotient(polynomial, divisor):
     return result
 
 
-def first_refusal(texts):
+def plain(polynomial):
+    """The plain form of a polynomial other than 0."""
+    numbers = polynomial.values()
+    front = Fraction(gcd(*[number.numerator for number in numbers]), lcm(*[number.denominator for number in numbers]))
+    if polynomial[max(polynomial, key=height_key)] < 0:
+        front = -front
+    return {product: number / front for product, number in polynomial.items()}
+
+
+def height(letter, polynomial):
+    return max((dict(product).get(letter, 0) for product in polynomial), default=0)
+
+
+def parts_by(letter, polynomial):
+    """The parts by the letter, from power 0 on."""
+    result = [{} for power in range(height(letter, polynomial) + 1)]
+    for product, number in polynomial.items():
+        rest = tuple(pair for pair in product if pair[0] != letter)
+        result[dict(product).get(letter, 0)][rest] = number
+    return result
+
+
+def without_what_parts_share(letter, polynomial):
+    """The polynomial in plain form, divided by what its parts have in common, and that."""
+    shared = reduce(in_common, parts_by(letter, polynomial))
+    return plain(quotient(polynomial, shared)), shared
+
+
+def in_common(first, second):
+    """What both have in common, in plain form; 0 if both are 0."""
+    if not first or not second:
+        return plain(first or second) if first or second else {}
+    letters = letters_in([first, second])
+    if not letters:
+        return {(): Fraction(1)}
+    letter = letters[-1]
+    first, shared = without_what_parts_share(letter, first)
+    second, other = without_what_parts_share(letter, second)
+    while second:
+        rest = rest_by(letter, first, second)
+        first, second = second, without_what_parts_share(letter, rest)[0] if rest else {}
+    return plain(times(first, in_common(shared, other)))
+
+
+def rest_by(letter, polynomial, divisor):
+    """A multiple of the rest of dividing by powers of the letter."""
+    below = height(letter, divisor)
+    while polynomial and height(letter, polynomial) >= below:
+        step = height(letter, polynomial) - below
+        first = parts_by(letter, polynomial)[-1]
+        moved = times(first, {((letter, step),) if step else (): Fraction(-1)})
+        polynomial = plus(times(polynomial, parts_by(letter, divisor)[-1]), times(moved, divisor))
+    return polynomial
+
+
+def value_of(polynomial, values):
+    """The polynomial's value with a number for each letter."""
+    result = Fraction(0)
+    for product, number in polynomial.items():
+        for letter, count in product:
+            number = number * values[letter] ** count
+        result += number
+    return result
+
+
+def rests_end_in_a_number(first, second):
+    """Whether two lists of numbers, the highest power's last, have no power of a letter in common by a prime."""
+    while len(second) > 1:
+        while len(first) >= len(second):
+            factor = first[-1] * pow(second[-1], -1, PRIME)
+            shift = len(first) - len(second)
+            first = [(number - factor * second[place - shift]) % PRIME if place >= shift else number
+                     for place, number in enumerate(first)]
+            while first and first[-1] == 0:
+                first.pop()
+        first, second = second, first
+    return len(second) == 1
+
+
+def share_only_numbers(chance, first, second):
+    """Whether it can be shown, with numbers for the other letters, that no letter is in what both have in common."""
+    for letter in set(letters_in([first])) & set(letters_in([second])):
+        for attempt in range(50):
+            values = {other: Fraction(chance.randrange(1000)) for other in letters_in([first, second])}
+            rows = [[value_of(part, values) for part in parts_by(letter, polynomial)] for polynomial in (first, second)]
+            rows = [[number.numerator * pow(number.denominator, -1, PRIME) % PRIME for number in row] for row in rows]
+            # Where a first number becomes 0, what is in common could lose its letter too.
+            if rows[0][-1] and rows[1][-1] and rests_end_in_a_number(rows[0], rows[1]):
+                break
+        else:
+            return False
+    return True
+
+
+def table(letter, first, second):
+    """The square table of the call resultant."""
+    n, m = height(letter, first), height(letter, second)
+    rows = []
+    for parts, count in ((parts_by(letter, first), m), (parts_by(letter, second), n)):
+        for row in range(count):
+            rows.append([{}] * row + parts[::-1] + [{}] * (count - 1 - row))
+    return rows
+
+
+def sum_over_orders(rows):
+    """The determinant: for each order of the columns the product along it, with its sign."""
+    result = {}
+    for order in itertools.permutations(range(len(rows))):
+        swaps = sum(order[i] > order[j] for j in range(len(order)) for i in range(j))
+        factors = [row[column] for row, column in zip(rows, order)]
+        if all(factors):
+            result = plus(result, reduce(times, factors, {(): Fraction((-1) ** swaps)}))
+    return result
+
+
+def first_refusal(texts, highest=8):
     """What point 1 of the promises says of these texts; 0 if nothing."""
     polynomials = [read(text) for text in texts]
     if None in polynomials:
@@ -185,7 +304,7 @@ def first_refusal(texts):
     letters = {letter for polynomial in polynomials for product in polynomial for letter, count in product}
     wholes = [whole for polynomial in polynomials for number in polynomial.values()
               for whole in (abs(number.numerator), number.denominator)]
-    if (len(letters) > 3 or any(len(polynomial) > 30 or degree(polynomial) > 8 for polynomial in polynomials)
+    if (len(letters) > 3 or any(len(polynomial) > 30 or degree(polynomial) > highest for polynomial in polynomials)
             or any(len(str(whole)) > 12 for whole in wholes)):
         return -2
     return 0
@@ -238,6 +357,29 @@ def expected_over(p, q):
     return [-5] if found is None else answered(write(found))
 
 
+def expected_common(p, q):
+    refusal = first_refusal([p, q], 5)
+    if refusal:
+        return [refusal]
+    if p == q == "0":
+        return [-3]
+    return answered(write(in_common(read(p), read(q))))
+
+
+def expected_resultant(letter, p, q):
+    if letter > 25:
+        return [-4]
+    refusal = first_refusal([p, q], 5)
+    if refusal:
+        return [refusal]
+    heights = [height(LETTERS[letter], read(text)) for text in (p, q)]
+    if 0 in heights:
+        return [-3]
+    if sum(heights) > 5:
+        return [-2]
+    return answered(write(sum_over_orders(table(LETTERS[letter], read(p), read(q)))))
+
+
 def products_up_to(highest, letters):
     """All products of these letters up to a degree, the higher ones first, as the second way keeps them."""
     found = []
@@ -275,4 +417,13 @@ def places(other):
         ("slope p", lambda p: slope(23, p), lambda p: expected_slope(23, p)),
         ("over p", lambda p: over(p, rest), lambda p: expected_over(p, other)),
         ("over q", lambda q: over(rest, q), lambda q: expected_over(other, q)),
+        ("common p", lambda p: common(p, rest), lambda p: expected_common(p, other)),
+        ("common q", lambda q: common(rest, q), lambda q: expected_common(other, q)),
+        ("resultant p", lambda p: resultant(23, p, rest), lambda p: expected_resultant(23, p, other)),
+        ("resultant q", lambda q: resultant(23, rest, q), lambda q: expected_resultant(23, other, q)),
     ]
+
+
+def highest_at(place):
+    """The highest degree that may be handed over at a place."""
+    return 5 if place.startswith(("common", "resultant")) else 8

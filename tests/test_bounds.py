@@ -2,8 +2,8 @@
 
 import unittest
 
-from letteredsums.polynomials import over, product, put, sum_of
-from tests.helping import codes, places, products_up_to, write
+from letteredsums.polynomials import common, over, product, put, resultant, sum_of
+from tests.helping import codes, highest_at, places, products_up_to, write
 
 MANY = products_up_to(4, "xyz")
 
@@ -23,14 +23,6 @@ EDGES = {
         ("a*b*c", "a*b*c*d"),
         ("a*z + m", "a*z + m + n"),
         ("2*a*b + c", "2*a*b + c*d"),
-    ],
-    "degree": [
-        ("x^8", "x^9"),
-        ("-x^8 + y", "-x^9 + y"),
-        ("x^4*y^4", "x^4*y^5"),
-        ("x^3*y^3*z^2", "x^3*y^3*z^3"),
-        ("a^8", "a^10"),
-        ("z^8", "z^" + "9" * 1000),
     ],
     "first whole number": [
         ("999999999999", "1000000000000"),
@@ -52,6 +44,26 @@ EDGES = {
         ("999999999999/999999999998", "1000000000001/1000000000000"),
         ("999999999998/999999999999*x - 999999999997/999999999998",
          "999999999998/999999999999*x - 999999999997/1000000000000"),
+    ],
+}
+
+DEGREES = {
+    8: [
+        ("x^8", "x^9"),
+        ("-x^8 + y", "-x^9 + y"),
+        ("x^4*y^4", "x^4*y^5"),
+        ("x^3*y^3*z^2", "x^3*y^3*z^3"),
+        ("a^8", "a^10"),
+        ("z^8", "z^" + "9" * 1000),
+    ],
+    5: [
+        ("x^5", "x^6"),
+        ("-x^5 + y", "-x^6 + y"),
+        ("x*y^4", "x^2*y^4"),
+        ("x^2*y^2*z", "x^2*y^2*z^2"),
+        ("a^5", "a^8"),
+        ("z^5", "z^" + "9" * 1000),
+        ("x^3*y^2 + x*y + 1", "x^3*y^3 + x*y + 1"),
     ],
 }
 
@@ -80,7 +92,7 @@ TOGETHER = [
 class Bounds(unittest.TestCase):
     def test_edges(self):
         for name, call, expected in places("2"):
-            for bound, pairs in EDGES.items():
+            for bound, pairs in list(EDGES.items()) + [("degree", DEGREES[highest_at(name)])]:
                 for small, large in pairs:
                     with self.subTest(place=name, bound=bound, small=small[:40]):
                         self.assertNotIn(expected(small)[0], (-1, -2, -4))
@@ -96,7 +108,7 @@ class Bounds(unittest.TestCase):
                     self.assertEqual(call(codes(text)), [-2])
 
     def test_letters_together(self):
-        calls = (sum_of, product, lambda p, q: put(23, p, q), over)
+        calls = (sum_of, product, lambda p, q: put(23, p, q), over, common, lambda p, q: resultant(23, p, q))
         for p, q, fits in TOGETHER:
             for call in calls:
                 with self.subTest(p=p, q=q):
@@ -108,7 +120,7 @@ class Bounds(unittest.TestCase):
 
     def test_the_refusal_told_first(self):
         wrong, large, fine = codes("x + x"), codes("x^9"), codes("x")
-        for call in (sum_of, product, over):
+        for call in (sum_of, product, over, common):
             for p, q in ((wrong, fine), (fine, wrong), (wrong, large), (large, wrong), (wrong, wrong)):
                 self.assertEqual(call(p, q), [-1])
             for p, q in ((large, fine), (fine, large), (large, large)):

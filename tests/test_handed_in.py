@@ -2,7 +2,7 @@
 
 import unittest
 
-from letteredsums.polynomials import over, power, product, put, slope, sum_of
+from letteredsums.polynomials import common, over, power, product, put, resultant, slope, sum_of
 from tests.helping import codes
 
 TEXTS = ["3/2*x^2*y - x + 1", "-x", "0", "", "x + x", "x^9", "w*x*y*z", "y^4 - 1/2", "\xff"]
@@ -30,6 +30,10 @@ def calls_with(p, q):
         ("slope", lambda: slope(26, p)),
         ("over", lambda: over(p, q)),
         ("over", lambda: over(q, p)),
+        ("common", lambda: common(p, q)),
+        ("resultant", lambda: resultant(23, p, q)),
+        ("resultant", lambda: resultant(24, p, q)),
+        ("resultant", lambda: resultant(26, p, q)),
     ]
 
 
@@ -54,6 +58,8 @@ class HandedIn(unittest.TestCase):
         self.assertEqual(product(p, p), product(list(p), list(p)))
         self.assertEqual(put(23, p, p), put(23, list(p), list(p)))
         self.assertEqual(over(p, p), over(list(p), list(p)))
+        self.assertEqual(common(p, p), common(list(p), list(p)))
+        self.assertEqual(resultant(23, p, p), resultant(23, list(p), list(p)))
         self.assertEqual(p, codes("x - 1/2"))
 
     def test_nothing_is_kept(self):

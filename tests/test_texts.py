@@ -2,7 +2,7 @@
 
 import unittest
 
-from tests.helping import answered, codes, places, read, sum_of, write
+from tests.helping import answered, codes, degree, highest_at, places, read, sum_of, write
 
 NOT_TEXTS = {
     "nothing": ["", " "],
@@ -51,7 +51,8 @@ class Texts(unittest.TestCase):
         for name, call, expected in places("2"):
             for text in TEXTS:
                 with self.subTest(place=name, text=text):
-                    self.assertNotIn(expected(text)[0], (-1, -2, -4))
+                    self.assertNotIn(expected(text)[0], (-1, -4))
+                    self.assertEqual(expected(text) == [-2], degree(read(text)) > highest_at(name))
                     self.assertEqual(call(codes(text)), expected(text))
 
     def test_each_one_stays_as_it_is(self):
