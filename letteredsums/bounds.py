@@ -13,6 +13,7 @@ MOST_PRODUCTS = 30
 MOST_LETTERS = 3
 HIGHEST_DEGREE = 8
 HIGHEST_DEGREE_OF_PAIRS = 5
+HIGHEST_DEGREE_OF_PARTED = 6
 LARGEST_WHOLE = 999999999999
 HIGHEST_RESULT = 12
 MOST_ROWS = 5
@@ -58,7 +59,8 @@ def refusal_of_letter(letter):
     return NOT_A_LETTER if letter >= len(LETTERS) else NOTHING
 
 
-def refusal_of_slope(letter, polynomial):
+def refusal_with_letter(letter, polynomial):
+    """The refusal of a call that is told a letter and one polynomial."""
     refusal = refusal_of_letter(letter)
     return refusal if refusal != NOTHING else refusal_of_polynomials([polynomial])
 
@@ -104,4 +106,13 @@ def refusal_of_resultant(letter, first, second):
         return HAS_NO_ANSWER
     if sum(heights) > MOST_ROWS:
         return TOO_LARGE
+    return NOTHING
+
+
+def refusal_of_parted(polynomial):
+    refusal = refusal_up_to(HIGHEST_DEGREE_OF_PARTED, [polynomial])
+    if refusal != NOTHING:
+        return refusal
+    if is_zero(polynomial):
+        return HAS_NO_ANSWER
     return NOTHING

@@ -12,6 +12,11 @@ def signed_content(polynomial):
     return content if polynomial.tops[highest_product(polynomial)] > 0 else -content
 
 
+def number_out_front(polynomial):
+    """The polynomial of that number alone; the polynomial isn't 0."""
+    return number_alone(signed_content(polynomial), polynomial.below)
+
+
 def plain_form(polynomial):
     """The polynomial, which isn't 0, divided by its number out front."""
     content = signed_content(polynomial)

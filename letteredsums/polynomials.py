@@ -1,9 +1,11 @@
 """The calls: each takes texts as lists of bytes and answers one list of whole numbers."""
 
 from letteredsums.bounds import DOES_NOT_GO_IN, NOTHING
-from letteredsums.bounds import refusal_of_common, refusal_of_over, refusal_of_polynomials, refusal_of_power
-from letteredsums.bounds import refusal_of_put, refusal_of_resultant, refusal_of_slope
-from letteredsums.dividing import divided
+from letteredsums.bounds import refusal_of_common, refusal_of_over, refusal_of_parted, refusal_of_polynomials
+from letteredsums.bounds import refusal_of_power, refusal_of_put, refusal_of_resultant, refusal_with_letter
+from letteredsums.dividing import divided, number_out_front
+from letteredsums.forms import parts_by
+from letteredsums.parting import taken_apart
 from letteredsums.reading import polynomial_of
 from letteredsums.reckoning import added, multiplied, raised, replaced, sloped
 from letteredsums.sharing import common_of
@@ -53,7 +55,7 @@ def put(letter, p, q):
 def slope(letter, p):
     """1, then the slope of p by the letter."""
     polynomial = polynomial_of(p)
-    refusal = refusal_of_slope(letter, polynomial)
+    refusal = refusal_with_letter(letter, polynomial)
     if refusal != NOTHING:
         return [refusal]
     return answer(1, [sloped(letter, polynomial)])
@@ -90,6 +92,26 @@ def resultant(letter, p, q):
     if refusal != NOTHING:
         return [refusal]
     return answer(1, [determinant(table_of(letter, first, second))])
+
+
+def parted(p):
+    """How many texts follow behind the first one; then the number out front, then what goes in once, twice, ..."""
+    polynomial = polynomial_of(p)
+    refusal = refusal_of_parted(polynomial)
+    if refusal != NOTHING:
+        return [refusal]
+    found = taken_apart(polynomial)
+    return answer(len(found), [number_out_front(polynomial)] + found)
+
+
+def parts(letter, p):
+    """How many; then p's parts by the letter, from power 0 on."""
+    polynomial = polynomial_of(p)
+    refusal = refusal_with_letter(letter, polynomial)
+    if refusal != NOTHING:
+        return [refusal]
+    found = parts_by(letter, polynomial)
+    return answer(len(found), found)
 
 
 def answer(number, polynomials):

@@ -2,8 +2,8 @@
 
 The second way shares no code with the package: it reads texts by a regular expression that spells out the
 document's rules, keeps Fractions, puts polynomials into one another product by product, divides them with one letter
-in place of all, finds what is in common by rests with parts in place of numbers, and sums a determinant over all
-orders of its columns.
+in place of all, finds what is in common by rests with parts in place of numbers, sums a determinant over all orders
+of its columns, and takes a polynomial apart by one letter after the other.
 """
 
 import itertools
@@ -12,7 +12,7 @@ from fractions import Fraction
 from functools import reduce
 from math import gcd, lcm
 
-from letteredsums.polynomials import common, over, power, product, put, resultant, slope, sum_of
+from letteredsums.polynomials import common, over, parted, parts, power, product, put, resultant, slope, sum_of
 
 LETTERS = "abcdefghijklmnopqrstuvwxyz"
 PRIME = 2 ** 61 - 1
@@ -32,7 +32,27 @@ def codes(text):
 
 def answered(text):
     """The answer of a call that answers 1 and one text."""
-    return [1, len(text)] + codes(text)
+    return laid_out(1, [text])
+
+
+def laid_out(number, texts):
+    """The answer of a call that answers a number and these texts."""
+    result = [number]
+    for text in texts:
+        result += [len(text)] + codes(text)
+    return result
+
+
+def texts_in(answer):
+    """The texts of an answer that isn't a refusal, behind its number."""
+    texts, place = [], 1
+    while place < len(answer):
+        end = place + 1 + answer[place]
+        if end > len(answer):
+            raise ValueError("a text that ends too early")
+        texts.append(bytes(answer[place + 1:end]).decode())
+        place = end
+    return texts
 
 
 # A polynomial of the second way: a dict from ((letter, count), ...) to a Fraction other than 0.
@@ -139,7 +159,7 @@ def put_into(letter, polynomial, other):
     return result
 
 
-def degree(polynomial):
+def degree_of(polynomial):
     return max((sum(count for letter, count in product) for product in polynomial), default=0)
 
 
@@ -161,8 +181,8 @@ def letters_in(polynomials):
 def quotient(polynomial, divisor):
     """The quotient, or None: divided with powers of one letter so high that each product has one of its own."""
     letters = letters_in([polynomial, divisor])
-    room = degree(polynomial) - degree(divisor)
-    base = max(degree(polynomial), degree(divisor)) + 1
+    room = degree_of(polynomial) - degree_of(divisor)
+    base = max(degree_of(polynomial), degree_of(divisor)) + 1
 
     def packed(product):
         return sum(count * base ** letters.index(letter) for letter, count in product)
@@ -181,12 +201,16 @@ def quotient(polynomial, divisor):
     return result
 
 
-def plain(polynomial):
-    """The plain form of a polynomial other than 0."""
+def number_out_front(polynomial):
+    """The number out front of a polynomial other than 0."""
     numbers = polynomial.values()
     front = Fraction(gcd(*[number.numerator for number in numbers]), lcm(*[number.denominator for number in numbers]))
-    if polynomial[max(polynomial, key=height_key)] < 0:
-        front = -front
+    return -front if polynomial[max(polynomial, key=height_key)] < 0 else front
+
+
+def plain_form(polynomial):
+    """The plain form of a polynomial other than 0."""
+    front = number_out_front(polynomial)
     return {product: number / front for product, number in polynomial.items()}
 
 
@@ -206,13 +230,13 @@ def parts_by(letter, polynomial):
 def without_what_parts_share(letter, polynomial):
     """The polynomial in plain form, divided by what its parts have in common, and that."""
     shared = reduce(in_common, parts_by(letter, polynomial))
-    return plain(quotient(polynomial, shared)), shared
+    return plain_form(quotient(polynomial, shared)), shared
 
 
 def in_common(first, second):
     """What both have in common, in plain form; 0 if both are 0."""
     if not first or not second:
-        return plain(first or second) if first or second else {}
+        return plain_form(first or second) if first or second else {}
     letters = letters_in([first, second])
     if not letters:
         return {(): Fraction(1)}
@@ -222,7 +246,7 @@ def in_common(first, second):
     while second:
         rest = rest_by(letter, first, second)
         first, second = second, without_what_parts_share(letter, rest)[0] if rest else {}
-    return plain(times(first, in_common(shared, other)))
+    return plain_form(times(first, in_common(shared, other)))
 
 
 def rest_by(letter, polynomial, divisor):
@@ -234,6 +258,29 @@ def rest_by(letter, polynomial, divisor):
         moved = times(first, {((letter, step),) if step else (): Fraction(-1)})
         polynomial = plus(times(polynomial, parts_by(letter, divisor)[-1]), times(moved, divisor))
     return polynomial
+
+
+def apart(polynomial):
+    """What goes into a polynomial other than 0 once, twice and so on, in plain form."""
+    letters = letters_in([polynomial])
+    if not letters:
+        return []
+    letter = letters[-1]
+    body, shared = without_what_parts_share(letter, polynomial)
+    pairs = itertools.zip_longest(apart_by(letter, body), apart(shared), fillvalue={(): Fraction(1)})
+    return [plain_form(times(first, second)) for first, second in pairs]
+
+
+def apart_by(letter, polynomial):
+    """The same if the letter is in all that goes in: what is left of the slope shows how often each does."""
+    again = in_common(polynomial, slope_by(letter, polynomial))
+    each, left = quotient(polynomial, again), quotient(slope_by(letter, polynomial), again)
+    found = []
+    while letters_in([each]):
+        left = plus(left, times(slope_by(letter, each), {(): Fraction(-1)}))
+        found.append(in_common(each, left))
+        each, left = quotient(each, found[-1]), quotient(left, found[-1])
+    return found
 
 
 def value_of(polynomial, values):
@@ -304,7 +351,7 @@ def first_refusal(texts, highest=8):
     letters = {letter for polynomial in polynomials for product in polynomial for letter, count in product}
     wholes = [whole for polynomial in polynomials for number in polynomial.values()
               for whole in (abs(number.numerator), number.denominator)]
-    if (len(letters) > 3 or any(len(polynomial) > 30 or degree(polynomial) > highest for polynomial in polynomials)
+    if (len(letters) > 3 or any(len(polynomial) > 30 or degree_of(polynomial) > highest for polynomial in polynomials)
             or any(len(str(whole)) > 12 for whole in wholes)):
         return -2
     return 0
@@ -324,7 +371,7 @@ def expected_power(n, p):
     refusal = first_refusal([p])
     if refusal:
         return [refusal]
-    if n > 12 or n * degree(read(p)) > 12:
+    if n > 12 or n * degree_of(read(p)) > 12:
         return [-2]
     return answered(write(to_power(read(p), n)))
 
@@ -335,7 +382,7 @@ def expected_put(letter, p, q):
     refusal = first_refusal([p, q])
     if refusal:
         return [refusal]
-    if degree(read(p)) * degree(read(q)) > 12:
+    if degree_of(read(p)) * degree_of(read(q)) > 12:
         return [-2]
     return answered(write(put_into(LETTERS[letter], read(p), read(q))))
 
@@ -380,6 +427,26 @@ def expected_resultant(letter, p, q):
     return answered(write(sum_over_orders(table(LETTERS[letter], read(p), read(q)))))
 
 
+def expected_parted(p):
+    refusal = first_refusal([p], 6)
+    if refusal:
+        return [refusal]
+    if p == "0":
+        return [-3]
+    found = apart(read(p))
+    return laid_out(len(found), [str(number_out_front(read(p)))] + [write(polynomial) for polynomial in found])
+
+
+def expected_parts(letter, p):
+    if letter > 25:
+        return [-4]
+    refusal = first_refusal([p])
+    if refusal:
+        return [refusal]
+    found = parts_by(LETTERS[letter], read(p))
+    return laid_out(len(found), [write(polynomial) for polynomial in found])
+
+
 def products_up_to(highest, letters):
     """All products of these letters up to a degree, the higher ones first, as the second way keeps them."""
     found = []
@@ -421,9 +488,11 @@ def places(other):
         ("common q", lambda q: common(rest, q), lambda q: expected_common(other, q)),
         ("resultant p", lambda p: resultant(23, p, rest), lambda p: expected_resultant(23, p, other)),
         ("resultant q", lambda q: resultant(23, rest, q), lambda q: expected_resultant(23, other, q)),
+        ("parted p", parted, expected_parted),
+        ("parts p", lambda p: parts(23, p), lambda p: expected_parts(23, p)),
     ]
 
 
 def highest_at(place):
     """The highest degree that may be handed over at a place."""
-    return 5 if place.startswith(("common", "resultant")) else 8
+    return {"common": 5, "resultant": 5, "parted": 6}.get(place.split()[0], 8)

@@ -4,8 +4,8 @@ import unittest
 from fractions import Fraction
 
 from letteredsums.polynomials import common, over
-from tests.helping import (LETTERS, answered, codes, expected_common, first_refusal, in_common, plain, products_up_to,
-                           quotient, random_polynomial, read, share_only_numbers, times, to_power, write)
+from tests.helping import (LETTERS, answered, codes, expected_common, first_refusal, in_common, plain_form,
+                           products_up_to, quotient, random_polynomial, read, share_only_numbers, times, to_power, write)
 
 ONE_LETTER = [
     ("x^2 - 1", "x - 1", "x - 1"),
@@ -122,7 +122,7 @@ class Common(unittest.TestCase):
             self.assertEqual(common(codes(q), codes(p)), answer)
             found = bytes(answer[2:]).decode()
             self.assertEqual(answer, answered(found))
-            self.assertEqual(write(plain(read(found))), found)
+            self.assertEqual(write(plain_form(read(found))), found)
             left = [quotient(read(text), read(found)) for text in (p, q)]
             self.assertNotIn(None, left)
             self.assertTrue(share_only_numbers(self.chance, left[0], left[1]))
@@ -172,7 +172,7 @@ class Common(unittest.TestCase):
         for p in ("x - 1", "2*x - y", "x*y + z", "x + y + z", "a*b - 1/2", "z^2 + 1", "-x*y"):
             for q in ("x^2 + 1", "y - 3*z", "x*y*z", "a^3 - b", "-1/7*z + 1"):
                 if first_refusal([p, q]) == 0:
-                    self.hold([(p, product_of([p, q]), write(plain(read(p))))])
+                    self.hold([(p, product_of([p, q]), write(plain_form(read(p))))])
 
     def test_plain_form(self):
         self.hold(PLAIN)
@@ -190,7 +190,7 @@ class Common(unittest.TestCase):
                 for first, second in (("x + 5", "x - 5"), ("y - 2", "y*z + 1"), (text, "x*z - 7"), ("b", "c^2")):
                     p, q = write(times(shared, read(first))), write(times(shared, read(second)))
                     if first_refusal([p, q], 5) == 0:
-                        self.hold([(p, q, write(plain(shared)))])
+                        self.hold([(p, q, write(plain_form(shared)))])
 
     def test_numbers_in_place_of_a_letter_that_have_more_in_common(self):
         self.hold([(p, q, "1") for p, q in UNLUCKY])
@@ -261,7 +261,7 @@ class Common(unittest.TestCase):
             shared, p, q = self.some_products(letters, self.chance.randint(0, 5), self.chance.choice([2, 4]), 2)
             with self.subTest(p=p, q=q):
                 self.assertEqual(common(codes(p), codes(q)), expected_common(p, q))
-                self.assertEqual(in_common(read(p), shared), plain(shared))
+                self.assertEqual(in_common(read(p), shared), plain_form(shared))
 
     def test_answers_come_within_seconds(self):
         products = products_up_to(4, "xyz")

@@ -2,10 +2,10 @@
 
 import unittest
 
-from letteredsums.polynomials import common, over, power, product, put, resultant, slope, sum_of
-from tests.helping import codes
+from letteredsums.polynomials import common, over, parted, parts, power, product, put, resultant, slope, sum_of
+from tests.helping import codes, laid_out, texts_in
 
-TEXTS = ["3/2*x^2*y - x + 1", "-x", "0", "", "x + x", "x^9", "w*x*y*z", "y^4 - 1/2", "\xff"]
+TEXTS = ["3/2*x^2*y - x + 1", "-x", "0", "", "x + x", "x^9", "w*x*y*z", "y^4 - 1/2", "\xff", "-2/3*x^3*y + x^2*y"]
 
 
 class Unchanging(list):
@@ -34,7 +34,15 @@ def calls_with(p, q):
         ("resultant", lambda: resultant(23, p, q)),
         ("resultant", lambda: resultant(24, p, q)),
         ("resultant", lambda: resultant(26, p, q)),
+        ("parted", lambda: parted(p)),
+        ("parts", lambda: parts(23, p)),
+        ("parts", lambda: parts(26, p)),
     ]
+
+
+def texts_told(name, number):
+    """How many texts stand behind the number that is answered first."""
+    return {"parted": number + 1, "parts": number}.get(name, 1)
 
 
 class HandedIn(unittest.TestCase):
@@ -81,8 +89,14 @@ class HandedIn(unittest.TestCase):
                     if answer[0] < 0:
                         self.assertEqual(len(answer), 1)
                     else:
-                        self.assertEqual(answer[0], 1)
-                        self.assertEqual(answer[1], len(answer) - 2)
+                        self.hold_layout(name, answer)
+
+    def hold_layout(self, name, answer):
+        texts = texts_in(answer)
+        self.assertEqual(answer, laid_out(answer[0], texts), name)
+        self.assertEqual(len(texts), texts_told(name, answer[0]), name)
+        if name not in ("parted", "parts"):
+            self.assertEqual(answer[0], 1, name)
 
 
 if __name__ == "__main__":

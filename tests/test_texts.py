@@ -2,7 +2,7 @@
 
 import unittest
 
-from tests.helping import answered, codes, degree, highest_at, places, read, sum_of, write
+from tests.helping import answered, codes, degree_of, highest_at, places, read, sum_of, write
 
 NOT_TEXTS = {
     "nothing": ["", " "],
@@ -52,7 +52,7 @@ class Texts(unittest.TestCase):
             for text in TEXTS:
                 with self.subTest(place=name, text=text):
                     self.assertNotIn(expected(text)[0], (-1, -4))
-                    self.assertEqual(expected(text) == [-2], degree(read(text)) > highest_at(name))
+                    self.assertEqual(expected(text) == [-2], degree_of(read(text)) > highest_at(name))
                     self.assertEqual(call(codes(text)), expected(text))
 
     def test_each_one_stays_as_it_is(self):
