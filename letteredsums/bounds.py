@@ -110,7 +110,16 @@ def refusal_of_resultant(letter, first, second):
 
 
 def refusal_of_parted(polynomial):
-    refusal = refusal_up_to(HIGHEST_DEGREE_OF_PARTED, [polynomial])
+    return refusal_with_0(HIGHEST_DEGREE_OF_PARTED, polynomial)
+
+
+def refusal_of_plain(polynomial):
+    return refusal_with_0(HIGHEST_DEGREE, polynomial)
+
+
+def refusal_with_0(highest, polynomial):
+    """The refusal of a call that has no answer for 0."""
+    refusal = refusal_up_to(highest, [polynomial])
     if refusal != NOTHING:
         return refusal
     if is_zero(polynomial):

@@ -1,4 +1,4 @@
-"""One polynomial divided by another, and plain forms."""
+"""One polynomial divided by another, numbers out front and plain forms."""
 
 from letteredsums.forms import Polynomial, common_divisor, highest_product, is_zero
 from letteredsums.reckoning import added, divided_by_whole, multiplied, number_alone

@@ -1,10 +1,11 @@
 """The calls: each takes texts as lists of bytes and answers one list of whole numbers."""
 
 from letteredsums.bounds import DOES_NOT_GO_IN, NOTHING
-from letteredsums.bounds import refusal_of_common, refusal_of_over, refusal_of_parted, refusal_of_polynomials
-from letteredsums.bounds import refusal_of_power, refusal_of_put, refusal_of_resultant, refusal_with_letter
-from letteredsums.dividing import divided, number_out_front
-from letteredsums.forms import parts_by
+from letteredsums.bounds import refusal_of_common, refusal_of_over, refusal_of_parted, refusal_of_plain
+from letteredsums.bounds import refusal_of_polynomials, refusal_of_power, refusal_of_put, refusal_of_resultant
+from letteredsums.bounds import refusal_with_letter
+from letteredsums.dividing import divided, number_out_front, plain_form
+from letteredsums.forms import degree_of, parts_by
 from letteredsums.parting import taken_apart
 from letteredsums.reading import polynomial_of
 from letteredsums.reckoning import added, multiplied, raised, replaced, sloped
@@ -112,6 +113,24 @@ def parts(letter, p):
         return [refusal]
     found = parts_by(letter, polynomial)
     return answer(len(found), found)
+
+
+def plain(p):
+    """2, then the number out front, then the plain form."""
+    polynomial = polynomial_of(p)
+    refusal = refusal_of_plain(polynomial)
+    if refusal != NOTHING:
+        return [refusal]
+    return answer(2, [number_out_front(polynomial), plain_form(polynomial)])
+
+
+def degree(p):
+    """p's degree."""
+    polynomial = polynomial_of(p)
+    refusal = refusal_of_polynomials([polynomial])
+    if refusal != NOTHING:
+        return [refusal]
+    return answer(degree_of(polynomial), [])
 
 
 def answer(number, polynomials):

@@ -12,7 +12,8 @@ from fractions import Fraction
 from functools import reduce
 from math import gcd, lcm
 
-from letteredsums.polynomials import common, over, parted, parts, power, product, put, resultant, slope, sum_of
+from letteredsums.polynomials import (common, degree, over, parted, parts, plain, power, product, put, resultant, slope,
+                                      sum_of)
 
 LETTERS = "abcdefghijklmnopqrstuvwxyz"
 PRIME = 2 ** 61 - 1
@@ -447,6 +448,20 @@ def expected_parts(letter, p):
     return laid_out(len(found), [write(polynomial) for polynomial in found])
 
 
+def expected_plain(p):
+    refusal = first_refusal([p])
+    if refusal:
+        return [refusal]
+    if p == "0":
+        return [-3]
+    return laid_out(2, [str(number_out_front(read(p))), write(plain_form(read(p)))])
+
+
+def expected_degree(p):
+    refusal = first_refusal([p])
+    return [refusal] if refusal else [degree_of(read(p))]
+
+
 def products_up_to(highest, letters):
     """All products of these letters up to a degree, the higher ones first, as the second way keeps them."""
     found = []
@@ -490,6 +505,8 @@ def places(other):
         ("resultant q", lambda q: resultant(23, rest, q), lambda q: expected_resultant(23, other, q)),
         ("parted p", parted, expected_parted),
         ("parts p", lambda p: parts(23, p), lambda p: expected_parts(23, p)),
+        ("plain p", plain, expected_plain),
+        ("degree p", degree, expected_degree),
     ]
 
 

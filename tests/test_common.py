@@ -5,7 +5,8 @@ from fractions import Fraction
 
 from letteredsums.polynomials import common, over
 from tests.helping import (LETTERS, answered, codes, expected_common, first_refusal, in_common, plain_form,
-                           products_up_to, quotient, random_polynomial, read, share_only_numbers, times, to_power, write)
+                           products_up_to, quotient, random_polynomial, read, share_only_numbers, times, to_power,
+                           write)
 
 ONE_LETTER = [
     ("x^2 - 1", "x - 1", "x - 1"),
